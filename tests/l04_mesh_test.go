@@ -1,6 +1,7 @@
 package tests
 
 import (
+	"iter"
 	"math"
 	"slices"
 	"strings"
@@ -108,17 +109,23 @@ func meshOfText(text string, byText map[string]rootShape) (impl.Mesh, bool) {
 	return meshOfShapes(shapes...).mesh, true
 }
 
+// meshWithText is meshOfText for a text that is known to be one of a mesh.
+func meshWithText(t *testing.T, text string, byText map[string]rootShape) impl.Mesh {
+	t.Helper()
+	m, ok := meshOfText(text, byText)
+	if !ok {
+		t.Fatalf("%q is not the text of a mesh", text)
+	}
+	return m
+}
+
 // baseMeshes returns meshes that are known to be valid, to be spoilt by tests.
 func baseMeshes(t *testing.T) []impl.Mesh {
 	t.Helper()
 	byText := shapesByText()
 	var meshes []impl.Mesh
 	for _, text := range []string{"0", "11", "122", "0|0", "122|0", "0|221|11", "2222|0|12344", "0|0|0|0|0|0|0|0", "11|0|122|221|0|11|0|34421", "4444444444444444"} {
-		m, ok := meshOfText(text, byText)
-		if !ok {
-			t.Fatalf("%q is not the text of a mesh", text)
-		}
-		meshes = append(meshes, m)
+		meshes = append(meshes, meshWithText(t, text, byText))
 	}
 	return meshes
 }
@@ -407,39 +414,56 @@ func TestMeshOkOfAllShortLists(t *testing.T) {
 	}
 }
 
-// TestSpoiltMeshes uses that a valid mesh with one leaf changed, added or removed is never valid.
-func TestSpoiltMeshes(t *testing.T) {
+// spoiltLists produces the leaves of a valid mesh with one leaf changed, added or removed, with two exchanged, and with all twice: never those of a valid mesh.
+func spoiltLists(leaves []impl.Id) iter.Seq[[]impl.Id] {
 	others := invalidIds()
 	for _, c := range allCells() {
 		others = append(others, c.id)
 	}
-	for _, m := range baseMeshes(t) {
-		for i, leaf := range m.Leaves {
-			wantNoMesh(t, impl.Mesh{Roots: m.Roots, Leaves: slices.Delete(slices.Clone(m.Leaves), i, i+1)})
-			wantNoMesh(t, impl.Mesh{Roots: m.Roots, Leaves: m.Leaves[:i]})
+	return func(yield func([]impl.Id) bool) {
+		more := yield(slices.Concat(leaves, leaves))
+		for i := range len(leaves) {
+			more = more && yield(slices.Delete(slices.Clone(leaves), i, i+1)) && yield(leaves[:i])
+			for j := range i {
+				spoilt := slices.Clone(leaves)
+				spoilt[i], spoilt[j] = spoilt[j], spoilt[i]
+				more = more && yield(spoilt)
+			}
+		}
+		for i := range len(leaves) + 1 {
 			for _, x := range others {
-				wantNoMesh(t, impl.Mesh{Roots: m.Roots, Leaves: slices.Insert(slices.Clone(m.Leaves), i, x)})
-				if x != leaf {
-					spoilt := slices.Clone(m.Leaves)
+				more = more && yield(slices.Insert(slices.Clone(leaves), i, x))
+				if i < len(leaves) && x != leaves[i] {
+					spoilt := slices.Clone(leaves)
 					spoilt[i] = x
-					wantNoMesh(t, impl.Mesh{Roots: m.Roots, Leaves: spoilt})
+					more = more && yield(spoilt)
 				}
 			}
-			for j := range i {
-				spoilt := slices.Clone(m.Leaves)
-				spoilt[i], spoilt[j] = spoilt[j], spoilt[i]
-				wantNoMesh(t, impl.Mesh{Roots: m.Roots, Leaves: spoilt})
-			}
 		}
-		for _, x := range others {
-			wantNoMesh(t, impl.Mesh{Roots: m.Roots, Leaves: append(slices.Clone(m.Leaves), x)})
+	}
+}
+
+// spoiltMeshes produces meshes that are not valid: a valid one with its leaves spoilt, or with another number of roots.
+func spoiltMeshes(m impl.Mesh) iter.Seq[impl.Mesh] {
+	return func(yield func(impl.Mesh) bool) {
+		for leaves := range spoiltLists(m.Leaves) {
+			if !yield(impl.Mesh{Roots: m.Roots, Leaves: leaves}) {
+				return
+			}
 		}
 		for _, roots := range append(extremeCellNumbers(), 9, 10, 17, 256+m.Roots) {
-			if roots != m.Roots {
-				wantNoMesh(t, impl.Mesh{Roots: roots, Leaves: m.Leaves})
+			if roots != m.Roots && !yield(impl.Mesh{Roots: roots, Leaves: m.Leaves}) {
+				return
 			}
 		}
-		wantNoMesh(t, impl.Mesh{Roots: m.Roots, Leaves: slices.Concat(m.Leaves, m.Leaves)})
+	}
+}
+
+func TestSpoiltMeshes(t *testing.T) {
+	for _, m := range baseMeshes(t) {
+		for spoilt := range spoiltMeshes(m) {
+			wantNoMesh(t, spoilt)
+		}
 	}
 }
 
