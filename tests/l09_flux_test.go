@@ -523,9 +523,12 @@ func TestFluxesOfSteepStatesThatAreNotValid(t *testing.T) {
 	}
 }
 
-// TestFluxesOfStatesThatAreAlmostValid has one number that is out of its range by one unit, or a mesh that is not balanced.
-func TestFluxesOfStatesThatAreAlmostValid(t *testing.T) {
+// almostValidStates returns states with one number that is out of its range by one unit, or with a mesh that is not
+// balanced, and a few with numbers that are far out of their range.
+func almostValidStates(t *testing.T) []impl.State {
+	t.Helper()
 	byText := shapesByText()
+	var states []impl.State
 	numbers := func(n ...int) []int { return n }
 	mass, tracer, bed := numbers(4000, 500, 3, 8000, 5), numbers(1, 2, 3, 4, 5), numbers(9, 10)
 	for _, p := range []plainState{
@@ -557,11 +560,18 @@ func TestFluxesOfStatesThatAreAlmostValid(t *testing.T) {
 		{"0|0", numbers(500, 0), numbers(0, 0), numbers(math.MaxInt, math.MinInt)},
 		{"0|0", numbers(500, 0), numbers(math.MaxInt, math.MinInt), numbers(0, 0)},
 	} {
-		wantNoFluxes(t, p.state(t, byText))
+		states = append(states, p.state(t, byText))
 	}
 	one := steepPlains()[1].state(t, byText)
 	for _, roots := range []int{0, 1, 3, 9, -2} {
-		wantNoFluxes(t, impl.State{Mesh: impl.Mesh{Roots: roots, Leaves: one.Mesh.Leaves}, Mass: one.Mass, Tracer: one.Tracer, Bed: one.Bed})
+		states = append(states, impl.State{Mesh: impl.Mesh{Roots: roots, Leaves: one.Mesh.Leaves}, Mass: one.Mass, Tracer: one.Tracer, Bed: one.Bed})
+	}
+	return states
+}
+
+func TestFluxesOfStatesThatAreAlmostValid(t *testing.T) {
+	for _, s := range almostValidStates(t) {
+		wantNoFluxes(t, s)
 	}
 }
 
